@@ -1,0 +1,1 @@
+"""Drivefold: programs that are run before their inputs are known."""
