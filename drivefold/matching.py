@@ -4,7 +4,7 @@ A term with arguments is read as an application: its function part is the term
 without its last argument, and its argument part is its last argument.
 """
 
-from drivefold.terms import assembled, same
+from drivefold.terms import assembled, is_lone_unknown, same
 from drivefold.termtexts import write_term
 
 
@@ -35,8 +35,7 @@ def match(pattern, term):
     """Return the parts that make the pattern the term, or None if there are none."""
     parts = {}
     for model, part, _ in meetings(pattern, term):
-        lone_unknown = isinstance(model[0], int) and not model[1]
-        wanted = parts.setdefault(model[0], part) if lone_unknown else model
+        wanted = parts.setdefault(model[0], part) if is_lone_unknown(model) else model
         if not same(wanted, part):
             return None
     return tuple(parts.items())

@@ -63,6 +63,26 @@ def names(term):
     return once([part[0] for part in places(term) if isinstance(part[0], str)])
 
 
+def is_function(head):
+    """Tell whether a head is the name of a function."""
+    return isinstance(head, str) and head[0].islower()
+
+
+def is_constructor(head):
+    """Tell whether a head is the name of a constructor."""
+    return isinstance(head, str) and not head[0].islower()
+
+
+def is_lone_unknown(term):
+    """Tell whether the term is an unknown without arguments."""
+    return isinstance(term[0], int) and not term[1]
+
+
+def lone_unknowns(first, count):
+    """Return the tuple of so many unknowns without arguments, numbered from the first one on."""
+    return tuple([(number, ()) for number in range(first, first + count)])
+
+
 def applied(term, arguments):
     """Return the term with further arguments behind its own."""
     return (term[0], term[1] + arguments)

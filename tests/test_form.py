@@ -22,6 +22,15 @@ INTERFACE = {
         "put": ["term", "parts"]},
     "termtexts.py": {"write_term": ["term"], "read_term": ["text"]},
     "matching.py": {"match": ["pattern", "term"], "generalize": ["first", "second"]},
+    "lying.py": {"within": ["first", "second"]},
+    "programtexts.py": {"write_program": ["program"], "read_program": ["text"]},
+    "running.py": {"demand": ["program", "term"], "run": ["program", "term", "steps"], "drive": ["program", "term"]},
+    "sessions.py": {"Session": None},
+}
+SESSION = {
+    "__init__": ["program", "start"], "expose": ["node"], "drive": ["node"], "split": ["node", "body", "parts"],
+    "fold": ["node", "other"], "leave": ["node"], "count": [], "open_nodes": [], "node": ["number"],
+    "whistle": ["number"], "way": ["number"], "graph": [], "auto": [], "journal": [],
 }
 
 
@@ -67,6 +76,14 @@ class FormTests(unittest.TestCase):
                     self.assertIsInstance(defined[word], ast.ClassDef)
                 else:
                     self.assertEqual([argument.arg for argument in defined[word].args.args], arguments, word)
+
+    def test_the_methods_stand_in_the_class_itself(self):
+        classes = [node for node in self.trees["sessions.py"].body if isinstance(node, ast.ClassDef)]
+        self.assertEqual([node.name for node in classes], ["Session"])
+        methods = {node.name: [argument.arg for argument in node.args.args[1:]]
+                   for node in classes[0].body if isinstance(node, ast.FunctionDef)}
+        for name, arguments in SESSION.items():
+            self.assertEqual(methods.get(name), arguments, name)
 
 
 if __name__ == "__main__":
