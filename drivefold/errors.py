@@ -9,6 +9,10 @@ class BadTerm(DriveFoldError):
     """A text is not the text of a term."""
 
 
+class BadWord(DriveFoldError):
+    """A word of a line is not what has to stand there."""
+
+
 class BadPaper(DriveFoldError):
     """A text is not a paper."""
 

@@ -1,7 +1,7 @@
 """The texts of programs."""
 
 from drivefold.errors import BadProgram, BadTerm
-from drivefold.terms import is_constructor, is_function, lone_unknowns, names, size, unknowns
+from drivefold.terms import calls_only, is_constructor, is_function, lone_unknowns, size, unknowns
 from drivefold.termtexts import read_term, write_term
 
 MOST_PARAMETERS = 100
@@ -42,7 +42,7 @@ def read_program(text):
         raise BadProgram(len(lines) + 1)
     defined = {group[0][0]: True for group in groups}
     for number, row in enumerate(rows, start=1):
-        if any([is_function(name) and name not in defined for name in names(row[4])]):
+        if not calls_only(row[4], defined):
             raise BadProgram(number)
     return tuple([function_of(group) for group in groups])
 

@@ -121,9 +121,14 @@ def driving(functions, term):
 
 def learnt(functions, term, unknown, function):
     """Return the tuple of what the term becomes for each rule of the function that needs the unknown."""
-    fresh = max(unknowns(term)) + 1
+    fresh = first_fresh(term)
     terms = []
     for constructor, count, _ in function[3]:
         known = put(term, ((unknown, (constructor, lone_unknowns(fresh, count))),))
         terms.append(demand_of(functions, known)[1])
     return tuple(terms)
+
+
+def first_fresh(term):
+    """Return the first of the unknowns that are fresh when an unknown of the term is learnt."""
+    return max(unknowns(term)) + 1

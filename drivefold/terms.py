@@ -73,6 +73,11 @@ def is_constructor(head):
     return isinstance(head, str) and not head[0].islower()
 
 
+def calls_only(term, functions):
+    """Tell whether all functions in the term are among the functions, which are told by their names."""
+    return all([name in functions for name in names(term) if is_function(name)])
+
+
 def is_lone_unknown(term):
     """Tell whether the term is an unknown without arguments."""
     return isinstance(term[0], int) and not term[1]

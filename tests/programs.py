@@ -66,3 +66,9 @@ def random_program(random):
 def random_start(random, size, unknowns):
     leaves = [*unknowns, *unknowns, "A", "f", "g"] if unknowns else ["A", "A", "f", "h"]
     return random_term(random, size, leaves, ["f", "f", "g", "h", "B", "C", *unknowns[:1]])
+
+
+def rename(term, source, names):
+    """The term with functions of a program in the places of f, g and h."""
+    head = source.choice(names) if term[0] in ("f", "g", "h") else term[0]
+    return (head, tuple([rename(argument, source, names) for argument in term[1]]))

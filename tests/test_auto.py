@@ -1,12 +1,12 @@
 import random
 import unittest
 
+from drivefold.errors import Refused
+from drivefold.journals import restart
 from drivefold.programtexts import read_program
 from drivefold.sessions import Session
-from drivefold.terms import size
-from drivefold.termtexts import read_term
-from tests.judges import check_session, line_of, made, rows_of, session_of
-from tests.programs import ADD, MIXED, REV, random_program, random_start
+from tests.judges import check_session, line_of, made, random_move, rows_of, session_of
+from tests.programs import ADD, MIXED, REV, random_program, random_start, rename
 from tests.readings import plain_auto_moves, plain_move
 
 
@@ -137,6 +137,51 @@ class AutoTests(unittest.TestCase):
         self.assertEqual(session.journal().splitlines()[1:3], ["drive 0", "expose 1"])
 
 
+class ClosingTests(unittest.TestCase):
+    """Promise 30: what holds of the rule in every session, also where moves were made before."""
+
+    def check_session(self, source, program, start):
+        session = Session(program, start)
+        for _ in range(source.choice([0, 0, 3, 10])):
+            if session.open_nodes():
+                made(session, random_move(source, session))
+        closed, lines = session.count() - len(session.open_nodes()), session.journal()
+        if session.open_nodes():
+            with self.assertRaises(Refused) as caught:
+                session.graph()
+            self.assertEqual(caught.exception.reason, "open")
+        self.assertEqual(session.auto(), session.count() - closed)
+        self.assertEqual(session.open_nodes(), ())
+        self.assertEqual(len(session.graph()), session.count())
+        self.assertEqual(session.journal()[:len(lines)], lines)
+        self.check_moves(program, lines, session.journal()[len(lines):].splitlines())
+        check_session(self, program, session)
+
+    def check_moves(self, program, lines, moves):
+        for move in moves:
+            session = restart(program, lines)
+            word, number = move.split()[:2]
+            self.assertEqual(int(number), session.open_nodes()[0])
+            if word != "expose":
+                self.assertIsInstance(made(session, ("expose", int(number))), str, move)
+            if word in ("split", "leave"):
+                self.assertIsInstance(made(session, ("drive", int(number))), str, move)
+            lines += f"{move}\n"
+
+    def test_random_sessions(self):
+        source = random.Random(30)
+        for _ in range(100):
+            start = random_start(source, source.randint(2, 12), [4, 2, 7])
+            self.check_session(source, random_program(source), start)
+            start = rename(random_start(source, source.randint(3, 9), [4, 2]), source, ["map", "add", "not", "twice"])
+            self.check_session(source, MIXED, start)
+
+    def test_the_greatest_starts(self):
+        source = random.Random(31)
+        for _ in range(15):
+            self.check_session(source, random_program(source), random_start(source, 60, [4, 2, 7]))
+
+
 class RandomTests(unittest.TestCase):
     def check(self, program, start, seen):
         session = Session(program, start)
@@ -175,12 +220,6 @@ class RandomTests(unittest.TestCase):
                 renamed = rename((names[0], arguments), source, names)
                 self.check(program, renamed, seen)
         self.assertEqual({word for word, _ in seen}, {"expose", "fold", "drive", "split", "leave"})
-
-
-def rename(term, source, names):
-    """The term with functions of the program in the places of f, g and h."""
-    head = source.choice(names) if term[0] in ("f", "g", "h") else term[0]
-    return (head, tuple([rename(argument, source, names) for argument in term[1]]))
 
 
 if __name__ == "__main__":

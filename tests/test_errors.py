@@ -2,7 +2,7 @@ import unittest
 
 from drivefold import errors
 from drivefold.errors import (
-    BadJournal, BadPaper, BadProgram, BadTerm, DriveFoldError, Refused, TooLarge, WrongPaper)
+    BadJournal, BadPaper, BadProgram, BadTerm, BadWord, DriveFoldError, Refused, TooLarge, WrongPaper)
 
 
 class ErrorTests(unittest.TestCase):
@@ -10,7 +10,7 @@ class ErrorTests(unittest.TestCase):
         self.assertEqual(DriveFoldError.__bases__, (ValueError,))
 
     def test_all_others_derive_from_the_base_class(self):
-        for error in (BadTerm, BadPaper, TooLarge, BadProgram, BadJournal, Refused, WrongPaper):
+        for error in (BadTerm, BadWord, BadPaper, TooLarge, BadProgram, BadJournal, Refused, WrongPaper):
             self.assertEqual(error.__bases__, (DriveFoldError,), error.__name__)
             self.assertEqual(error.__module__, errors.__name__)
 

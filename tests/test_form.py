@@ -26,6 +26,12 @@ INTERFACE = {
     "programtexts.py": {"write_program": ["program"], "read_program": ["text"]},
     "running.py": {"demand": ["program", "term"], "run": ["program", "term", "steps"], "drive": ["program", "term"]},
     "sessions.py": {"Session": None},
+    "residuals.py": {"residual": ["program", "graph"]},
+    "papers.py": {
+        "write_paper": ["graph"], "read_paper": ["text"], "wrong_line": ["program", "graph"],
+        "check": ["program", "start", "text"]},
+    "tidying.py": {"tidy": ["program", "keep"]},
+    "journals.py": {"restart": ["program", "text"]},
 }
 SESSION = {
     "__init__": ["program", "start"], "expose": ["node"], "drive": ["node"], "split": ["node", "body", "parts"],
